@@ -1,0 +1,1 @@
+"""Mingle: computing by meetings of small agents."""
