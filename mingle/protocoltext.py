@@ -48,8 +48,15 @@ def _add_line(draft, words):
         raise InvalidRulebook("the line has no form")
 
 
+def is_decimal(word, digits):
+    """True if the word is a number in decimal without leading zeros and with at most so many digits."""
+    if not 1 <= len(word) <= digits or not all([sign in DIGITS for sign in word]):
+        return False
+    return word == "0" or word[0] != "0"
+
+
 def _output(word):
     """The output that a word tells. Raises InvalidRulebook if it is not one digit."""
-    if len(word) != 1 or word not in DIGITS:
+    if not is_decimal(word, 1):
         raise InvalidRulebook("an output is not one digit")
     return int(word)

@@ -80,6 +80,11 @@ class ParseTest(unittest.TestCase):
             self.refused(2, "state a 1", line)
             self.refused(2, "state a 1", line, "junk")
 
+    def test_the_form_of_another_kind(self):
+        for line in ["state a", "input a", "rule a", "state a a", "leader a a", "rule a a", "input a 1", "leader b 0",
+                     "rule b 0", "state a a to a a", "input a a to a a", "leader a a to a a"]:
+            self.refused(2, "state a 1", line)
+
     def test_blanks(self):
         for line in ["state  b 0", "state b  0", " state b 0", "state b 0 ", "input  y a", "input y  a", "input y a ",
                      " input y a", "leader  a", "leader a ", " leader a", "rule a  a to a a", "rule a a  to a a",
