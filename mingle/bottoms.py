@@ -1,12 +1,12 @@
 """Components of a graph, the closed ones among them, and from where places can be reached."""
 
 
-def _step_rows(graph):
+def step_rows(graph):
     """For each number the numbers to which a step leads."""
     return [graph.steps(number) for number in range(len(graph))]
 
 
-def _turned(rows):
+def turned(rows):
     """For each number the numbers from which a step leads to it."""
     back = [[] for _ in rows]
     for number, row in enumerate(rows):
@@ -47,8 +47,8 @@ def _leaving_order(rows):
 
 def components(graph):
     """The largest regions in which each place can be reached from each other one, ordered by their first numbers."""
-    rows = _step_rows(graph)
-    back = _turned(rows)
+    rows = step_rows(graph)
+    back = turned(rows)
     seen = [False] * len(rows)
     found = []
     # Of the places that are not seen yet, the one that was left last is reached only from its own component.
@@ -75,4 +75,4 @@ def bottoms(graph):
 
 def can_reach(graph, numbers):
     """The ascending list of all places from which one of these can be reached, these included."""
-    return _gathered(_turned(_step_rows(graph)), numbers, [False] * len(graph))
+    return _gathered(turned(step_rows(graph)), numbers, [False] * len(graph))

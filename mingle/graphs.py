@@ -3,6 +3,8 @@
 from mingle.errors import TooLarge
 from mingle.places import smallest_meetings
 
+MOST_PLACES = 2000
+
 
 class Graph:
     """All places that can be reached from the first one, numbered in the order of their discovery (point 9).
@@ -45,7 +47,7 @@ class Graph:
         return way
 
 
-def explore(protocol, place, *, limit=2000):
+def explore(protocol, place, *, limit=MOST_PLACES):
     """The graph of a protocol from a place. Raises WrongCounts, and TooLarge if it has more places than the limit."""
     places = [place]
     numbers = {place: 0}

@@ -25,7 +25,7 @@ def is_possible(place, meeting):
     return place[first] >= 1 and place[second] >= 1
 
 
-def _moved(protocol, place, meeting):
+def moved(protocol, place, meeting):
     """The place after a possible meeting."""
     first, second = meeting
     third, fourth = protocol.meet(first, second)
@@ -65,7 +65,7 @@ def run(protocol, place, meetings):
     for index, meeting in enumerate(meetings):
         if not is_possible(here, meeting):
             raise NotPossible(index)
-        here = _moved(protocol, here, meeting)
+        here = moved(protocol, here, meeting)
     return here
 
 
@@ -78,7 +78,7 @@ def smallest_meetings(protocol, place):
     """A dict with each successor of a place and the smallest meeting that leads to it. Raises WrongCounts."""
     leading = {}
     for meeting in meetings(protocol, place):
-        following = _moved(protocol, place, meeting)
+        following = moved(protocol, place, meeting)
         if following != place and following not in leading:
             leading[following] = meeting
     return leading
