@@ -132,13 +132,13 @@ def check(protocol, place, goal, *, limit=MOST_PLACES):
     return ("no", (graph.way_to(region[0]), [graph.place(number) for number in region]))
 
 
-def _lists_with_sum(many, wanted):
+def lists_with_sum(many, wanted):
     """All lists of so many counts with this sum, ascending."""
     if many == 0:
         return [[]] if wanted == 0 else []
     if many == 1:
         return [[wanted]]
-    return [[first, *others] for first in range(wanted + 1) for others in _lists_with_sum(many - 1, wanted - first)]
+    return [[first, *others] for first in range(wanted + 1) for others in lists_with_sum(many - 1, wanted - first)]
 
 
 def _goal_for(protocol, formula, counts):
@@ -155,7 +155,7 @@ def first_failure(protocol, formula, size, *, limit=MOST_PLACES):
     # Inputs may have the same state, so that different counts ask the same.
     tried = set()
     for wanted in range(size + 1):
-        for counts in _lists_with_sum(len(protocol.inputs), wanted):
+        for counts in lists_with_sum(len(protocol.inputs), wanted):
             place = protocol.first_place(counts)
             goal = _goal_for(protocol, formula, counts)
             if (place, goal) not in tried:

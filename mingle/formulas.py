@@ -1,6 +1,6 @@
 """Formulas: questions about the counts of variables."""
 
-from mingle.errors import UnknownName, WrongCounts
+from mingle.errors import InvalidFormula, UnknownName, WrongCounts
 from mingle.protocols import is_name
 
 WORDS = ("and", "or", "not", "true", "false", "mod")
@@ -62,6 +62,13 @@ def is_formula(formula):
     return _is_sound(formula, GREATEST_DEPTH) and len(variables(formula)) <= MOST_VARIABLES
 
 
+def checked(formula):
+    """The formula. Raises InvalidFormula if the tuple is none."""
+    if not is_formula(formula):
+        raise InvalidFormula("the tuple is not a formula")
+    return formula
+
+
 def depth(formula):
     """1 for a formula without parts, otherwise one more than the greatest depth of its parts."""
     return 1 + max([depth(part) for part in _parts(formula)], default=0)
@@ -93,22 +100,23 @@ def total(terms, counts):
     return sum([factor * counts[name] for name, factor in terms])
 
 
-def _holds(formula, counts):
+def holds(formula, counts):
+    """The answer for these counts, of which there is one for each variable, none of them negative."""
     word = formula[0]
     if word == "least":
         return total(formula[1], counts) >= formula[2]
     if word == "rest":
         return total(formula[1], counts) % formula[3] == formula[2]
     if word == "not":
-        return not _holds(formula[1], counts)
+        return not holds(formula[1], counts)
     if word == "and":
-        return _holds(formula[1], counts) and _holds(formula[2], counts)
+        return holds(formula[1], counts) and holds(formula[2], counts)
     if word == "or":
-        return _holds(formula[1], counts) or _holds(formula[2], counts)
+        return holds(formula[1], counts) or holds(formula[2], counts)
     return word == "true"
 
 
 def answer(formula, counts):
     """The answer for these counts, True or False (point 13). Raises UnknownName, and then WrongCounts."""
     check_counts(variables(formula), counts)
-    return _holds(formula, counts)
+    return holds(formula, counts)

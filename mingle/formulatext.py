@@ -1,7 +1,7 @@
 """Written formulas."""
 
 from mingle.errors import InvalidFormula
-from mingle.formulas import GREATEST_DEPTH, GREATEST_MODULUS, GREATEST_NUMBER, LEAST_MODULUS, is_formula, is_variable
+from mingle.formulas import GREATEST_DEPTH, GREATEST_MODULUS, GREATEST_NUMBER, LEAST_MODULUS, checked, is_variable
 from mingle.protocoltext import is_decimal
 
 SIGNS = (">=", ">", "<=", "<", "=")
@@ -118,7 +118,8 @@ def rest_or_truth(terms, rest, modulus):
     return ("rest", terms, rest, modulus) if terms else _truth(rest == 0)
 
 
-def _most_or_truth(terms, bound):
+def most_or_truth(terms, bound):
+    """The relation "the sum is at most the bound"; true or false if there is no term."""
     return least_or_truth(tuple([(name, -factor) for name, factor in terms]), -bound)
 
 
@@ -129,17 +130,17 @@ def _compared(terms, sign, bound):
     if sign == ">":
         return least_or_truth(terms, bound + 1)
     if sign == "<=":
-        return _most_or_truth(terms, bound)
+        return most_or_truth(terms, bound)
     if sign == "<":
-        return _most_or_truth(terms, bound - 1)
+        return most_or_truth(terms, bound - 1)
     if terms:
-        return ("and", least_or_truth(terms, bound), _most_or_truth(terms, bound))
+        return ("and", least_or_truth(terms, bound), most_or_truth(terms, bound))
     return _truth(bound == 0)
 
 
 def _left_over(terms, rest, modulus):
     """The formula for a rest. Raises InvalidFormula if the rest or the modulus is out of range."""
-    # No formula shows these two numbers if no term is left, so is_formula would not see them.
+    # No formula shows these two numbers if no term is left, so it would not be seen there.
     _demand(LEAST_MODULUS <= modulus <= GREATEST_MODULUS, f"the modulus {modulus} is out of range")
     _demand(-GREATEST_NUMBER <= rest <= GREATEST_NUMBER, f"the rest {rest} is out of range")
     return rest_or_truth(terms, rest % modulus, modulus)
@@ -186,5 +187,4 @@ def parse_formula(text):
     if text.startswith("(") or not words.are_taken():
         formula = _take_joined(words, formula, GREATEST_DEPTH)
     _demand(words.are_taken(), "words stand behind the formula")
-    _demand(is_formula(formula), "the text means no formula")
-    return formula
+    return checked(formula)

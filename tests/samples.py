@@ -40,6 +40,16 @@ def drawn_protocol(seed, many):
     return Rulebook(states, [("x", "s0")], [], rules, [draw.randrange(10) for _ in states])
 
 
+def drawn_rules(seed, many, rules):
+    """A protocol with so many states and at most so many drawn rules."""
+    draw = random.Random(seed)
+    states = names(many)
+    found = {}
+    for _ in range(rules):
+        found[draw.choice(states), draw.choice(states)] = (draw.choice(states), draw.choice(states))
+    return Rulebook(states, [], [], [first + second for first, second in found.items()], [0] * many)
+
+
 def least(bound, **factors):
     """The formula that the sum of these terms is at least the bound."""
     return ("least", tuple(sorted(factors.items())), bound)

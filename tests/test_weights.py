@@ -12,23 +12,13 @@ from mingle.graphs import explore
 from mingle.places import size
 from mingle.protocols import Rulebook
 from mingle.weights import base, is_kept, separating, weight_of
-from samples import drawn_protocol, majority, names, pair
+from samples import drawn_protocol, drawn_rules, majority, names, pair
 
 EMPTY = Rulebook([], [], [], [], [])
 
 
 def with_rules(states, *rules):
     return Rulebook(list(states), [], [], [tuple(rule) for rule in rules], [0] * len(states))
-
-
-def drawn_rules(seed, many, rules):
-    """A protocol with so many states and at most so many drawn rules."""
-    draw = random.Random(seed)
-    states = names(many)
-    found = {}
-    for _ in range(rules):
-        found[draw.choice(states), draw.choice(states)] = (draw.choice(states), draw.choice(states))
-    return Rulebook(states, [], [], [first + second for first, second in found.items()], [0] * many)
 
 
 def naive_base(protocol):
