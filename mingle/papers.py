@@ -56,19 +56,19 @@ class Lines:
         self._demand(len(words) == many)
         return words
 
-    def _numbers(self, words):
+    def _integers(self, words):
         self._demand(all([is_decimal(word, MOST_DIGITS) for word in words]))
         return [int(word) for word in words]
 
     def take_place(self, word):
         """Takes a line with this word and a place."""
-        return tuple(self._numbers(self._take(word, len(self._protocol))))
+        return tuple(self._integers(self._take(word, len(self._protocol))))
 
     def take_goal(self):
         """Takes a line with a goal."""
         word, number = self._take("goal", 2)
         self._demand(word in ("answer", "total"))
-        return (word, self._numbers([number])[0])
+        return (word, self._integers([number])[0])
 
     def take_word(self, word):
         """Takes a line that consists of this word."""
@@ -76,7 +76,7 @@ class Lines:
 
     def take_ranked(self):
         """Takes a line with a rank and a place, and returns the pair of the place and the rank."""
-        rank, *place = self._numbers(self._take("rank", len(self._protocol) + 1))
+        rank, *place = self._integers(self._take("rank", len(self._protocol) + 1))
         return (tuple(place), rank)
 
     def take_meeting(self):

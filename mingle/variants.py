@@ -21,7 +21,7 @@ def doubling(name, exponent):
             rules.append((state, state, *doubled[state]))
         rules.append((state, "y", "y", "y"))
     rules.extend([("y", state, "y", "y") for state in others])
-    return Rulebook([*others, "y"], [(name, "p0")], [], rules, [*[0 for _ in others], 1])
+    return Rulebook([*others, "y"], [(name, "p0")], [], rules, [0] * len(others) + [1])
 
 
 def with_inputs(protocol, inputs):
@@ -40,7 +40,7 @@ def fixed(protocol, name, count):
     if len(protocol.leaders) + count > MOST_LEADERS:
         raise InvalidRulebook(f"there are more than {MOST_LEADERS} leaders")
     inputs = [pair for pair in protocol.inputs if pair[0] != name]
-    leaders = [*protocol.leaders, *[states[name] for _ in range(count)]]
+    leaders = [*protocol.leaders, *[states[name]] * count]
     return Rulebook(protocol.states, inputs, leaders, protocol.rules, protocol.outputs)
 
 
