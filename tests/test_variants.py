@@ -94,7 +94,6 @@ class DoublingTest(unittest.TestCase):
 
     def test_great_bound(self):
         protocol = doubling("x", 5)
-        self.assertEqual(first_failure(protocol, ("false",), 0), None)
         for count, expected in [(31, 0), (32, 1)]:
             graph = explore(protocol, protocol.first_place([count]))
             for region in bottoms(graph):
@@ -248,9 +247,13 @@ class KindTest(unittest.TestCase):
             rules = ["abac", "baca", "bbcc"]
             rules.insert(at, "ccac")
             self.kinds(plain("abc", rules), False, False)
-            rules = ["abac", "bcbb", "ccca"]
-            rules[at] = "a" + "bc"[at % 2] + "cc"
-            self.kinds(plain("abc", dict([(rule[:2], rule) for rule in rules]).values()), False, False)
+            rules = ["abac", "bcbb", "cccb"]
+            self.kinds(plain("abc", rules), True, False)
+            rules.insert(at, "acba")
+            self.kinds(plain("abc", rules), False, False)
+            rules = ["abac", "baca", "bbcc"]
+            rules.insert(at, "cabb")
+            self.kinds(plain("abc", rules), False, False)
 
     def test_drawn_protocols(self):
         told = []
